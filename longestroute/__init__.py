@@ -1,0 +1,1 @@
+"""Where to go by the longest beginning that is known."""
