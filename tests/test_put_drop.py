@@ -107,7 +107,7 @@ class WrongLength(unittest.TestCase):
 
 
 class FullTable(unittest.TestCase):
-    # 400 calls of put, drop and find don't fill the table, so these tests ask the table itself.
+    # 400 puts don't fill the table, so these tests ask the table itself; test_range.py fills it by ranges.
 
     def full_table(self):
         table = Table()
